@@ -69,15 +69,7 @@ type reduction struct {
 }
 
 func reductionOf(n impl.Net) reduction {
-	table := tableOf(n)
-	r := reduction{n: n}
-	for a := range n.Nodes {
-		var row []*big.Rat
-		for b := range n.Nodes {
-			row = append(row, big.NewRat(int64(table[a][b]), int64(n.Scale)))
-		}
-		r.conductances = append(r.conductances, row)
-	}
+	r := reduction{n: n, conductances: conductancesOf(n)}
 	for v := n.Nodes - 1; v >= n.Ends; v-- {
 		total := exactSum(r.conductances[v][:v])
 		for a := range v {
@@ -90,6 +82,19 @@ func reductionOf(n impl.Net) reduction {
 		}
 	}
 	return r
+}
+
+func conductancesOf(n impl.Net) [][]*big.Rat {
+	table := tableOf(n)
+	var conductances [][]*big.Rat
+	for a := range n.Nodes {
+		var row []*big.Rat
+		for b := range n.Nodes {
+			row = append(row, big.NewRat(int64(table[a][b]), int64(n.Scale)))
+		}
+		conductances = append(conductances, row)
+	}
+	return conductances
 }
 
 func exactSum(list []*big.Rat) *big.Rat {
@@ -133,23 +138,28 @@ func (r reduction) potentials(volts []int) []*big.Rat {
 	return p
 }
 
-// The least common scale at which the conductances between the terminals are
-// integers makes the only network of the terminals without a common divisor.
+// net is the only network of the terminals without a common divisor.
 func (r reduction) net() (impl.Net, bool) {
+	return netOfConductances(r.conductances, r.n.Ends, r.n.Ends)
+}
+
+// netOfConductances has the least common scale at which the conductances
+// between the first nodes are integers.
+func netOfConductances(conductances [][]*big.Rat, nodes int, ends int) (impl.Net, bool) {
 	scale := big.NewInt(1)
-	for a := range r.n.Ends {
+	for a := range nodes {
 		for b := range a {
-			below := r.conductances[a][b].Denom()
+			below := conductances[a][b].Denom()
 			common := new(big.Int).GCD(nil, nil, scale, below)
 			scale.Mul(scale, new(big.Int).Quo(below, common))
 		}
 	}
 	var table weightTable
 	fits := scale.Cmp(big.NewInt(1000)) <= 0
-	for a := range r.n.Ends {
-		for b := range r.n.Ends {
+	for a := range nodes {
+		for b := range nodes {
 			if a != b {
-				weight := new(big.Rat).Mul(r.conductances[a][b], new(big.Rat).SetInt(scale))
+				weight := new(big.Rat).Mul(conductances[a][b], new(big.Rat).SetInt(scale))
 				fits = fits && weight.Cmp(big.NewRat(200, 1)) <= 0
 				table[a][b] = int(weight.Num().Int64())
 			}
@@ -158,7 +168,7 @@ func (r reduction) net() (impl.Net, bool) {
 	if !fits {
 		return impl.Net{}, false
 	}
-	return table.net(r.n.Ends, r.n.Ends, int(scale.Int64())), true
+	return table.net(nodes, ends, int(scale.Int64())), true
 }
 
 // A network with its response.
