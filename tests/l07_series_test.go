@@ -64,11 +64,15 @@ func droppedByHand(n impl.Net, v int) (impl.Net, bool) {
 		both := new(big.Rat).Add(conductances[a][b], new(big.Rat).Inv(resistance))
 		conductances[a][b], conductances[b][a] = both, both
 	}
+	return netOfConductances(withoutLines(conductances, v), n.Nodes-1, n.Ends)
+}
+
+func withoutLines(conductances [][]*big.Rat, v int) [][]*big.Rat {
 	conductances = slices.Delete(conductances, v, v+1)
 	for i, row := range conductances {
 		conductances[i] = slices.Delete(row, v, v+1)
 	}
-	return netOfConductances(conductances, n.Nodes-1, n.Ends)
+	return conductances
 }
 
 func reducedByHand(n impl.Net) (impl.Net, int) {
@@ -330,7 +334,7 @@ func TestDropNodeOfAllNets(t *testing.T) {
 func checkWithoutNode(t *testing.T, n impl.Net, v int, smaller impl.Net) {
 	t.Helper()
 	if lowest, ok := impl.CanonNet(smaller); !ok || !equalNets(lowest, smaller) || smaller.Nodes != n.Nodes-1 || smaller.Ends != n.Ends {
-		t.Fatalf("DropNode(%v, %d) = %v", n, v, smaller)
+		t.Fatalf("without %d, %v is %v", v, n, smaller)
 	}
 	checkAlike(t, n, smaller)
 	for a := range smaller.Nodes {
