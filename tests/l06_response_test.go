@@ -68,8 +68,11 @@ type reduction struct {
 	conductances [][]*big.Rat
 }
 
-func reductionOf(n impl.Net) reduction {
-	r := reduction{n: n, conductances: conductancesOf(n)}
+func reductionOf(n impl.Net) reduction { return reductionFrom(n, conductancesOf(n)) }
+
+// reductionFrom needs no wires, and so takes any number of nodes.
+func reductionFrom(n impl.Net, conductances [][]*big.Rat) reduction {
+	r := reduction{n: n, conductances: conductances}
 	for v := n.Nodes - 1; v >= n.Ends; v-- {
 		total := exactSum(r.conductances[v][:v])
 		for a := range v {
@@ -233,21 +236,34 @@ func TestResponsesOfAllNets(t *testing.T) {
 	}
 }
 
-// The greatest terms: they are beyond what the functions of fractions can add,
-// and still there is a response.
-func TestResponseOfGreatestTerms(t *testing.T) {
-	for nodes := 1; nodes <= impl.MaxNodes; nodes++ {
-		for ends := 1; ends <= nodes; ends++ {
-			for _, weights := range [][]int{{200}, {199, 200}, {200, 1}, {199, 200, 197}, {193, 1, 200, 199, 197, 191}} {
-				for _, scale := range []int{1, 999, 1000} {
-					n := withScale(withEnds(sameWeights(nodes, 1), ends), scale)
-					for i := range n.Wires {
-						n.Wires[i].W = weights[i%len(weights)]
+// greatestNets gives networks with all wires, of great weights alone or beside
+// small ones, with the least and with great scales.
+func greatestNets() iter.Seq[impl.Net] {
+	return func(yield func(impl.Net) bool) {
+		for n := range netsOfAllEnds() {
+			if len(n.Wires) < n.Nodes*(n.Nodes-1)/2 {
+				continue
+			}
+			for _, weights := range [][]int{{200}, {199, 200}, {200, 1}, {1, 1, 200}, {199, 200, 197}, {193, 1, 200, 199, 197, 191}} {
+				for _, scale := range []int{1, 997, 999, 1000} {
+					great := withScale(copyOf(n), scale)
+					for i := range great.Wires {
+						great.Wires[i].W = weights[i%len(weights)]
 					}
-					checkEverything(t, n)
+					if !yield(great) {
+						return
+					}
 				}
 			}
 		}
+	}
+}
+
+// The greatest terms: they are beyond what the functions of fractions can add,
+// and still there is a response.
+func TestResponseOfGreatestTerms(t *testing.T) {
+	for n := range greatestNets() {
+		checkEverything(t, n)
 	}
 }
 
