@@ -644,7 +644,7 @@ func TestWiresAtIsNew(t *testing.T) {
 }
 
 // Every goroutine ends, also if the first of several nodes is the only one that
-// is wanted. One that has closed its channel may still need a moment to end.
+// is wanted.
 func TestSeriesLeavesNoGoroutine(t *testing.T) {
 	before := runtime.NumGoroutine()
 	star := netOf(5, 1, 1, 0, 1, 1, 0, 2, 1, 0, 3, 1, 0, 4, 1)
@@ -656,6 +656,12 @@ func TestSeriesLeavesNoGoroutine(t *testing.T) {
 			impl.ReduceAll(n)
 		}
 	}
+	checkGoroutinesEnd(t, before)
+}
+
+// A goroutine that has closed its channel may still need a moment to end.
+func checkGoroutinesEnd(t *testing.T, before int) {
+	t.Helper()
 	for range 1000000 {
 		if runtime.NumGoroutine() <= before {
 			return
